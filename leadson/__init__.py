@@ -1,0 +1,1 @@
+"""Leadson: places each of which leads to one place."""
