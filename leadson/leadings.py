@@ -1,7 +1,7 @@
 """Leadings done so often, one behind the other, and taken back."""
 
-from leadson.checks import check_leading, check_place, check_steps
-from leadson.errors import NotBack, Unlike
+from leadson.checks import check_back, check_leading, check_place, check_steps
+from leadson.errors import Unlike
 
 
 def times(leading, steps):
@@ -38,13 +38,11 @@ def behind(one, other):
 
 def undone(leading):
     check_leading(leading)
-    starts = {}
+    check_back(leading)
+    starts = [0] * len(leading)
     for start, end in enumerate(leading):
-        if end in starts:
-            raise NotBack("two places lead to one place")
         starts[end] = start
-    # As many starts as places, none twice, so that none is wanting here.
-    return [starts[end] for end in range(len(leading))]
+    return starts
 
 
 def path_from(leading, place):
@@ -61,9 +59,13 @@ def done(leading, steps):
     count = len(leading)
     if steps <= count:
         return done_few(leading, steps)
-    # After as many steps as there are places one is on a ring wherever one began, and there whole
-    # turns change nothing: so the work doesn't grow with the steps, however great they are.
-    return turned(leading, done_few(leading, count), steps - count)
+    # On a ring whole turns change nothing: so the work doesn't grow with the steps, however great they are.
+    return turned(leading, landings(leading), steps - count)
+
+
+def landings(leading):
+    # After as many steps as there are places one is on a ring wherever one began.
+    return done_few(leading, len(leading))
 
 
 def done_few(leading, steps):

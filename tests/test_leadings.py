@@ -1,71 +1,8 @@
 import itertools
-import unittest
 
 from leadson.errors import BadLeading, BadPlace, BadSteps, NotBack, Unlike
 from leadson.leadings import after, behind, comers, times, undone
-
-GREAT = 10 ** 100
-# Too many digits for Python to write out.
-HUGE = 10 ** 5000
-
-NO_LEADINGS = (
-    None, True, False, 0, 1, "", "0", (), (0,), {}, {0: 0}, {0}, 1.0, range(1), object(),
-    [True], [False], ["0"], [None], [[]], [[0]], [(0,)], [0.0], [object()],
-    [0, True], [0, False], [1, "0"], [1, None], [0, [0]],
-    [-1], [1], [0, 2], [0, -1], [-1, 0], [2, 0], [1, 2, 3], [HUGE], [-HUGE],
-)
-NO_NUMBERS = (True, False, "", "0", None, [], [0], (0,), {}, 0.0, 1.0, object())
-NO_STEPS = NO_NUMBERS + (-1, -2, -GREAT, -HUGE)
-
-
-def all_leadings(most):
-    for count in range(most + 1):
-        for ends in itertools.product(range(count), repeat=count):
-            yield list(ends)
-
-
-def step_by_step(leading, place, steps):
-    for done in range(steps):
-        place = leading[place]
-    return place
-
-
-def no_places(leading):
-    return NO_NUMBERS + (-1, -2, len(leading), len(leading) + 1, -len(leading) - 1, HUGE, -HUGE)
-
-
-class Asking(unittest.TestCase):
-    def refused(self, refusal, asked, *handed):
-        """Refused as that very class, with nothing that was handed in changed."""
-        before = [list(one) if isinstance(one, list) else one for one in handed]
-        with self.assertRaises(refusal) as caught:
-            asked(*handed)
-        self.assertIs(caught.exception.__class__, refusal)
-        for had, one in zip(before, handed):
-            self.assertEqual(had, one)
-
-    def own(self, asked, *handed):
-        """Told anew each time, and the asker's own."""
-        copies = [list(one) if isinstance(one, list) else one for one in handed]
-        told = asked(*handed)
-        self.assertIs(told.__class__, list)
-        kept = list(told)
-        for one in handed:
-            self.assertIsNot(told, one)
-        told.append(0)
-        told[0] = "changed"
-        told.reverse()
-        self.assertEqual(list(handed), copies)
-        self.assertEqual(asked(*handed), kept)
-
-    def not_kept(self, asked, leading, *others):
-        """A leading changed after one asked is seen as it stands then."""
-        first = asked(leading, *others)
-        kept = list(leading)
-        leading[:] = list(range(len(leading)))
-        self.assertEqual(asked(leading, *others), asked(list(leading), *others))
-        leading[:] = kept
-        self.assertEqual(asked(leading, *others), first)
+from tests.asking import GREAT, HUGE, NO_LEADINGS, NO_STEPS, Asking, all_leadings, no_places, step_by_step
 
 
 class Times(Asking):
